@@ -1,0 +1,1 @@
+"""Components, machine code, and who is to blame."""
