@@ -122,7 +122,9 @@ class NumberOfTest(unittest.TestCase):
                 self.assertIs(type(number_of(str(number))), int)
 
     def test_every_word_that_writes_a_machine_word(self):
-        self.assertEqual([number_of(str(number)) for number in range(65536)], list(range(65536)))
+        wrong = [number for number in range(65536) if number_of(str(number)) != number]
+        # Two long lists would be compared for minutes if they differed.
+        self.assertEqual(wrong[:10], [])
 
     def assert_no_number(self, words):
         for word in words:
