@@ -1,6 +1,7 @@
 """Machine words, the words of a text, and numbers."""
 
 WORD_COUNT = 65536
+OPERATORS = ("+", "-", "*", "/", "mod", "<", "=")
 DIGITS = "0123456789"
 MOST_DIGITS = 5
 

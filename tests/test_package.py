@@ -17,6 +17,9 @@ FUNCTIONS = (
     ("blameless.words", "number_of", ["word"]),
     ("blameless.interface", "interface_text", ["interface"]),
     ("blameless.interface", "read_interface", ["text"]),
+    ("blameless.language", "read_component", ["text", "imports"]),
+    ("blameless.writer", "component_text", ["component"]),
+    ("blameless.writer", "block_words", ["block"]),
 )
 
 # The module, the name, the names of the constructor's arguments and the methods with theirs.
@@ -26,6 +29,8 @@ CLASSES = (
     ("blameless.errors", "BadTrace", ["at"], {}),
     ("blameless.errors", "TooLarge", ["what"], {}),
     ("blameless.interface", "Interface", ["rows"], {"size": [], "__eq__": ["other"]}),
+    ("blameless.language", "Component", ["room", "buffers", "procedures"], {"__eq__": ["other"]}),
+    ("blameless.process", "Process", ["interface", "components"], {"step": [], "go": ["steps", "events"]}),
 )
 
 # Names with which a program would reach a file, the network or a state of the machine.

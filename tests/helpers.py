@@ -1,0 +1,92 @@
+"""What several tests share: texts of components, and components made by chance from a fixed seed."""
+
+import random
+
+from blameless.errors import BadText
+from blameless.interface import Interface
+from blameless.language import Component, read_component
+from blameless.process import Process
+from blameless.words import OPERATORS
+
+
+def with_body(body, *, room=20000, locals_=4, buffers=(), more=()):
+    """Return the text of a component whose procedure 0 has this body; `more` are the texts of further procedures."""
+    words = [f"room {room} procedures {1 + len(more)}"]
+    words.extend([" ".join(["buffer", str(len(buffer))] + [str(word) for word in buffer]) for buffer in buffers])
+    words.append(" ".join([f"procedure {locals_}"] + ([body] if body else []) + ["end"]))
+    words.extend(more)
+    return " ".join(words)
+
+
+def fault_of(text, imports):
+    """Return the index with which BadText is raised, or None if the text can be read."""
+    try:
+        read_component(text, imports)
+    except BadText as error:
+        return error.at
+    return None
+
+
+def alone(body, **more):
+    """Return the run of one component without imports whose procedure 0 has this body."""
+    return Process(Interface([(1, [])]), [read_component(with_body(body, **more), 0)])
+
+
+def process_of(rows, texts):
+    """Return the run of these texts, one for each row of the interface."""
+    components = [read_component(text, len(row[1])) for row, text in zip(rows, texts, strict=True)]
+    return Process(Interface(rows), components)
+
+
+class Chance:
+    """Makes components by chance, always the same ones for the same seed."""
+
+    def __init__(self, seed):
+        self.random = random.Random(seed)
+
+    def component(self, imports):
+        buffers = [self.words(self.random.choice([1, 2, 9])) for _ in range(self.random.choice([0, 1, 3, 8]))]
+        count = self.random.randint(1, 8)
+        procedures = []
+        for _ in range(count):
+            bounds = (self.random.choice([1, 2, 16]), len(buffers), count, imports)
+            procedures.append((bounds[0], self.block(6, bounds)))
+        return Component(self.random.randint(0, 20000), buffers, procedures)
+
+    def words(self, count):
+        return [self.random.choice([0, 1, 9, 10, 65535, self.random.randrange(65536)]) for _ in range(count)]
+
+    def block(self, depth, bounds):
+        return tuple([self.statement(depth, bounds) for _ in range(self.random.choice([0, 1, 1, 2]))])
+
+    def statement(self, depth, bounds):
+        local_count, buffer_count, procedure_count, imports = bounds
+        kinds = ["set", "call", "return"] + ["put"] * (buffer_count > 0) + ["use"] * (imports > 0)
+        kind = self.random.choice(kinds + ["if", "if", "while"] * (depth > 0))
+        local = self.random.randrange(local_count)
+        if kind == "set":
+            return kind, local, self.expression(4, bounds)
+        if kind == "put":
+            return kind, self.random.randrange(buffer_count), self.expression(4, bounds), self.expression(4, bounds)
+        if kind == "call":
+            return kind, local, self.random.randrange(procedure_count), self.expression(4, bounds)
+        if kind == "use":
+            return kind, local, self.random.randrange(imports), self.expression(4, bounds)
+        if kind == "if":
+            test = self.expression(4, bounds)
+            return kind, test, self.block(depth - 1, bounds), self.block(depth - 1, bounds)
+        if kind == "while":
+            return kind, self.expression(4, bounds), self.block(depth - 1, bounds)
+        return kind, self.expression(4, bounds)
+
+    def expression(self, depth, bounds):
+        local_count, buffer_count = bounds[:2]
+        kinds = ["number", "local"] + (list(OPERATORS) + ["get"] * (3 * (buffer_count > 0))) * (depth > 1)
+        kind = self.random.choice(kinds)
+        if kind == "number":
+            return kind, self.words(1)[0]
+        if kind == "local":
+            return kind, self.random.randrange(local_count)
+        if kind == "get":
+            return kind, self.random.randrange(buffer_count), self.expression(depth - 1, bounds)
+        return kind, self.expression(depth - 1, bounds), self.expression(depth - 1, bounds)
