@@ -5,6 +5,7 @@ import random
 from blameless.errors import BadText
 from blameless.interface import Interface
 from blameless.language import Component, read_component
+from blameless.machine import Code
 from blameless.process import Process
 from blameless.words import OPERATORS
 
@@ -90,3 +91,84 @@ class Chance:
         if kind == "get":
             return kind, self.random.randrange(buffer_count), self.expression(depth - 1, bounds)
         return kind, self.expression(depth - 1, bounds), self.expression(depth - 1, bounds)
+
+    def interface(self):
+        size = self.random.choice([1, 2, 2, 3, 4, 8])
+        exports = [self.random.randint(1, 3) for _ in range(size)]
+        rows = []
+        for component in range(size):
+            pairs = [(other, number) for other in range(size) for number in range(exports[other]) if other != component]
+            rows.append((exports[component], self.random.sample(pairs, min(len(pairs), self.random.randint(1, 4)))))
+        return Interface(rows)
+
+    def codes(self, interface):
+        return [self.code(exports, len(pairs)) for exports, pairs in zip(interface.exports, interface.imports)]
+
+    def code(self, exports, imports):
+        count = self.random.randint(4, 12)
+        memory = []
+        for _ in range(count):
+            number = self.random.choice([1, 1, 10, 11, 12, 13, 14, 16, 16, self.random.randint(0, 17)] + [15] * 6)
+            # Small words are registers, and addresses of instructions, too.
+            words = [self.random.choice([0, 0, 1, 2, 4, 8, 12, 16]) for _ in range(3)]
+            if number == 15 and self.random.random() < 0.95:
+                words[1] = self.random.randrange(max(imports, 1))
+            memory.extend([number] + words)
+        return Code(memory, [4 * self.random.randrange(count // 2) for _ in range(exports)])
+
+
+class Lively(Chance):
+    """Makes components that make many events: they use and call much, and seldom do anything undefined."""
+
+    def program(self):
+        """Return an interface and a component for each one of it."""
+        interface = self.interface()
+        return interface, [self.part(interface, number) for number in range(interface.size())]
+
+    def part(self, interface, number):
+        imports = len(interface.imports[number])
+        sizes = [self.random.choice([1, 2, 9]) for _ in range(self.random.choice([0, 1, 2]))]
+        # How often an index is made to fit: always in two of three components.
+        self.care = self.random.choice([1, 1, 0.9])
+        count = interface.exports[number] + self.random.randint(0, 2)
+        procedures = []
+        for _ in range(count):
+            bounds = (self.random.choice([1, 2, 5]), len(sizes), count, imports)
+            procedures.append((bounds[0], self.fitting_block(self.block(self.random.choice([1, 2, 6]), bounds), sizes)))
+        room = self.random.choice([3, 7, 20, 60, 300])
+        return Component(room, [self.words(size) for size in sizes], procedures)
+
+    def block(self, depth, bounds):
+        return tuple([self.statement(depth, bounds) for _ in range(self.random.choice([0, 1, 2, 3, 4]))])
+
+    def statement(self, depth, bounds):
+        local = self.random.randrange(bounds[0])
+        kind = self.random.choice(["any", "any", "set", "call", "use", "use"])
+        if kind == "use" and bounds[3] > 0:
+            return kind, local, self.random.randrange(bounds[3]), self.expression(3, bounds)
+        if kind == "call":
+            return kind, local, self.random.randrange(bounds[2]), self.expression(3, bounds)
+        if kind == "set":
+            return kind, local, self.expression(4, bounds)
+        drawn = super().statement(depth, bounds)
+        # A return in the middle leaves out what stands behind it.
+        if drawn[0] == "return" and self.random.random() < 0.7:
+            return "set", local, drawn[1]
+        return drawn
+
+    def fitting_block(self, block, sizes):
+        return tuple([self.fitting(statement, sizes) for statement in block])
+
+    def fitting(self, part, sizes):
+        """Return a statement or an expression with indexes that fit, where care is taken."""
+        if part[0] in ("number", "local"):
+            return part
+        parts = []
+        for place, inner in enumerate(part):
+            if isinstance(inner, tuple):
+                is_block = inner == () or isinstance(inner[0], tuple)
+                inner = self.fitting_block(inner, sizes) if is_block else self.fitting(inner, sizes)
+                if part[0] in ("get", "put") and place == 2 and self.random.random() < self.care:
+                    inner = ("mod", inner, ("number", sizes[part[1]]))
+            parts.append(inner)
+        return tuple(parts)

@@ -20,6 +20,12 @@ FUNCTIONS = (
     ("blameless.language", "read_component", ["text", "imports"]),
     ("blameless.writer", "component_text", ["component"]),
     ("blameless.writer", "block_words", ["block"]),
+    ("blameless.traces", "maker", ["interface", "trace"]),
+    ("blameless.traces", "possible", ["interface", "trace"]),
+    ("blameless.traces", "made_by", ["trace", "component"]),
+    ("blameless.traces", "trace_lines", ["trace"]),
+    ("blameless.traces", "read_trace", ["interface", "lines"]),
+    ("blameless.compiler", "compile_component", ["component", "exported", "checked"]),
 )
 
 # The module, the name, the names of the constructor's arguments and the methods with theirs.
@@ -31,6 +37,8 @@ CLASSES = (
     ("blameless.interface", "Interface", ["rows"], {"size": [], "__eq__": ["other"]}),
     ("blameless.language", "Component", ["room", "buffers", "procedures"], {"__eq__": ["other"]}),
     ("blameless.process", "Process", ["interface", "components"], {"step": [], "go": ["steps", "events"]}),
+    ("blameless.machine", "Code", ["memory", "entries"], {"__eq__": ["other"]}),
+    ("blameless.machine", "Machine", ["interface", "codes"], {"step": [], "go": ["steps", "events"]}),
 )
 
 # Names with which a program would reach a file, the network or a state of the machine.
