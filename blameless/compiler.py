@@ -205,7 +205,10 @@ class Compiler:
         self.memory[over_repeated] = self.here()
 
     def add_value(self, expression, goal):
-        """Add what gives the register `goal` a value, or LAST_VALUE if it is less; lower registers stay."""
+        """Add what puts the value of an expression into the register `goal`, or LAST_VALUE if that is less.
+
+        The registers below it stay as they are.
+        """
         kind = expression[0]
         value = min(goal, LAST_VALUE)
         if kind == "number":
