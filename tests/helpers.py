@@ -101,6 +101,24 @@ class Chance:
             rows.append((exports[component], self.random.sample(pairs, min(len(pairs), self.random.randint(1, 4)))))
         return Interface(rows)
 
+    def trace(self, interface, most):
+        """Return a trace that can come, with at most so many events."""
+        trace = []
+        # Those that wait, and behind them the one that is current.
+        busy = [0]
+        returns = self.random.choice([0.1, 0.5, 0.5, 0.9])
+        while len(trace) < most:
+            word = self.words(1)[0]
+            imports = interface.imports[busy[-1]]
+            if imports and self.random.random() >= returns:
+                trace.append(("call", busy[-1], *self.random.choice(imports), word))
+                busy.append(trace[-1][2])
+            elif len(busy) > 1:
+                trace.append(("return", busy.pop(), busy[-1], word))
+            elif not imports or self.random.random() < 0.1:
+                return trace + [("end", word)]
+        return trace
+
     def codes(self, interface):
         return [self.code(exports, len(pairs)) for exports, pairs in zip(interface.exports, interface.imports)]
 
@@ -118,7 +136,14 @@ class Chance:
 
 
 class Lively(Chance):
-    """Makes components that make many events: they use and call much, and seldom do anything undefined."""
+    """Makes components that make many events: they use and call much, and seldom do anything undefined.
+
+    One of `cares` is drawn for each component: how often an index is made to fit.
+    """
+
+    def __init__(self, seed, cares=(1, 1, 0.9)):
+        super().__init__(seed)
+        self.cares = cares
 
     def program(self):
         """Return an interface and a component for each one of it."""
@@ -128,8 +153,7 @@ class Lively(Chance):
     def part(self, interface, number):
         imports = len(interface.imports[number])
         sizes = [self.random.choice([1, 2, 9]) for _ in range(self.random.choice([0, 1, 2]))]
-        # How often an index is made to fit: always in two of three components.
-        self.care = self.random.choice([1, 1, 0.9])
+        self.care = self.random.choice(self.cares)
         count = interface.exports[number] + self.random.randint(0, 2)
         procedures = []
         for _ in range(count):

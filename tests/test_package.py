@@ -26,6 +26,13 @@ FUNCTIONS = (
     ("blameless.traces", "trace_lines", ["trace"]),
     ("blameless.traces", "read_trace", ["interface", "lines"]),
     ("blameless.compiler", "compile_component", ["component", "exported", "checked"]),
+    ("blameless.explain", "explanation", ["interface", "component", "trace"]),
+    ("blameless.blame", "blame", ["interface", "parts", "steps", "checked"]),
+    ("blameless.safety", "bound", ["expression"]),
+    ("blameless.safety", "surely_defined", ["component"]),
+    ("blameless.safety", "fold_component", ["component"]),
+    ("blameless.policy", "state_after", ["policy", "trace"]),
+    ("blameless.policy", "broken_at", ["policy", "trace"]),
 )
 
 # The module, the name, the names of the constructor's arguments and the methods with theirs.
@@ -39,6 +46,8 @@ CLASSES = (
     ("blameless.process", "Process", ["interface", "components"], {"step": [], "go": ["steps", "events"]}),
     ("blameless.machine", "Code", ["memory", "entries"], {"__eq__": ["other"]}),
     ("blameless.machine", "Machine", ["interface", "codes"], {"step": [], "go": ["steps", "events"]}),
+    ("blameless.blame", "Verdict", ["trace", "blamed", "components", "made"], {}),
+    ("blameless.policy", "Policy", ["rules"], {"after": ["state", "event"]}),
 )
 
 # Names with which a program would reach a file, the network or a state of the machine.
